@@ -6,18 +6,9 @@ import (
 	"testing"
 
 	"turnstile/api"
+	"turnstile/parse"
 	"turnstile/show"
 )
-
-// readExpr reads a text that is one expression, and no more.
-func readExpr(text string) api.Expr {
-	r := newReader(text)
-	x := r.expr()
-	if len(r.l) > 0 {
-		panic("more than an expression: " + text)
-	}
-	return x
-}
 
 // smaller are all expressions with one of the leaves at each place, so many levels of them.
 func smaller(levels int, leaves []api.Expr) []api.Expr {
@@ -45,8 +36,8 @@ func TestSmallExpressions(t *testing.T) {
 			t.Fatalf("%v: %q and the error %d; told before: %v", x, s, e, seen[s])
 		}
 		seen[s] = true
-		if y := readExpr(s); !reflect.DeepEqual(x, y) {
-			t.Fatalf("%v is told as %q, which is %v", x, s, y)
+		if y, e := parse.Expr(s); e != api.OK || !reflect.DeepEqual(x, y) {
+			t.Fatalf("%v is told as %q, which is %v with the error %d", x, s, y, e)
 		}
 	}
 	if len(seen) < 100000 {
@@ -211,8 +202,8 @@ func TestProgramsComeBack(t *testing.T) {
 		if e != api.OK {
 			t.Fatalf("%v: the error %d", p, e)
 		}
-		if q := newReader(s).program(); !reflect.DeepEqual(p, q) {
-			t.Fatalf("%v is told as\n%s\nwhich is %v", p, s, q)
+		if q, _, line, e := parse.Program(s); e != api.OK || !reflect.DeepEqual(p, q) {
+			t.Fatalf("%v is told as\n%s\nwhich is %v with the error %d at %d", p, s, q, e, line)
 		}
 		if q, ok := seen[s]; ok && !reflect.DeepEqual(p, q) {
 			t.Fatalf("two programs are told as\n%s", s)
@@ -233,8 +224,8 @@ func TestExpressionsComeBack(t *testing.T) {
 		if e != api.OK && show.Items(thread(print(x))) <= 1024 {
 			t.Fatalf("%v: the error %d", x, e)
 		}
-		if y := readExpr(s); e == api.OK && !reflect.DeepEqual(x, y) {
-			t.Fatalf("%v is told as %q, which is %v", x, s, y)
+		if y, read := parse.Expr(s); e == api.OK && (read != api.OK || !reflect.DeepEqual(x, y)) {
+			t.Fatalf("%v is told as %q, which is %v with the error %d", x, s, y, read)
 		}
 	}
 }
@@ -256,8 +247,8 @@ func TestOneTextOneTree(t *testing.T) {
 	}
 	for i, p := range alike {
 		s, e := show.Program(p)
-		if q := newReader(s).program(); e != api.OK || !reflect.DeepEqual(p, q) {
-			t.Errorf("the error %d, and %v is told as\n%s", e, p, s)
+		if q, _, line, read := parse.Program(s); e != api.OK || read != api.OK || !reflect.DeepEqual(p, q) {
+			t.Errorf("the error %d, and %v is told as\n%s\nwhich is %v with the error %d at %d", e, p, s, q, read, line)
 		}
 		for _, q := range alike[:i] {
 			if other, _ := show.Program(q); other == s {
