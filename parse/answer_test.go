@@ -10,6 +10,7 @@ import (
 
 	"turnstile/api"
 	"turnstile/parse"
+	"turnstile/types"
 )
 
 // span is where a list lies in memory, spare room too.
@@ -57,26 +58,6 @@ func TestAnswersAreNewMemory(t *testing.T) {
 	}
 }
 
-// places is how many places a program has, as they are counted in DOC.md (R7).
-func places(p api.Program) int {
-	n := len(p.Records) + len(p.Shared) + len(p.Funcs) + len(p.Threads)
-	for _, f := range p.Funcs {
-		n += stmts(f.Body)
-	}
-	for _, list := range p.Threads {
-		n += stmts(list)
-	}
-	return n
-}
-
-func stmts(list []api.Stmt) int {
-	n := len(list)
-	for _, s := range list {
-		n += stmts(s.Body) + stmts(s.Else)
-	}
-	return n
-}
-
 // TestAnyText holds of all kinds of texts that each is answered, and with what.
 func TestAnyText(t *testing.T) {
 	chance := rand.New(rand.NewSource(5))
@@ -106,7 +87,7 @@ func TestAnyText(t *testing.T) {
 	taken := 0
 	for _, s := range texts {
 		p, lines, line, e := parse.Program(s)
-		if e == api.OK && line == 0 && len(lines) == places(p) {
+		if e == api.OK && line == 0 && len(lines) == types.Places(p) {
 			taken++
 			testBack(t, p)
 		} else if e != api.ErrToken && e != api.ErrSyntax && e != api.ErrLimit || line < 0 || line > strings.Count(s, "\n") {

@@ -11,6 +11,7 @@ import (
 	"turnstile/lex"
 	"turnstile/parse"
 	"turnstile/show"
+	"turnstile/types"
 )
 
 func newPen(seed int64) *pen { return &pen{Rand: rand.New(rand.NewSource(seed))} }
@@ -26,8 +27,8 @@ func testBack(t *testing.T, p api.Program) {
 	if e != api.OK || e2 != api.OK || line != 0 || !reflect.DeepEqual(p, q) {
 		t.Fatalf("%v is told as\n%s\nwith the error %d, which is %v with the error %d at %d", p, s, e, q, e2, line)
 	}
-	if !slices.Equal(lines, toldLines(s)) {
-		t.Fatalf("%s has its places at %v, not %v", s, lines, toldLines(s))
+	if !slices.Equal(lines, toldLines(s)) || len(lines) != types.Places(p) {
+		t.Fatalf("%s has its %d places at %v, not %v", s, types.Places(p), lines, toldLines(s))
 	}
 	if again, _ := show.Program(q); again != s {
 		t.Fatalf("%s is told as %s", s, again)

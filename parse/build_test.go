@@ -8,6 +8,7 @@ import (
 
 	"turnstile/api"
 	"turnstile/parse"
+	"turnstile/types"
 )
 
 const (
@@ -67,8 +68,8 @@ func testTree(t *testing.T, text string, want api.Program, wantLines ...int) {
 	if !reflect.DeepEqual(p, want) {
 		t.Errorf("%s is %v, not %v", short(text), p, want)
 	}
-	if !slices.Equal(lines, wantLines) {
-		t.Errorf("%s has its places at %v, not %v", short(text), lines, wantLines)
+	if !slices.Equal(lines, wantLines) || len(lines) != types.Places(p) {
+		t.Errorf("%s has its %d places at %v, not %v", short(text), types.Places(p), lines, wantLines)
 	}
 }
 
